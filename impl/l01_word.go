@@ -47,6 +47,11 @@ func isWord(n int64) bool {
 	return n >= 0 && n <= MaxWord
 }
 
+// rotate turns the word right by n bits.
+func (w word) rotate(n int) word {
+	return word(bits.RotateLeft32(uint32(w), -n))
+}
+
 func (w word) encode() wordBytes {
 	return wordBytes{byte(w >> 24), byte(w >> 16), byte(w >> 8), byte(w)}
 }
@@ -66,7 +71,7 @@ func RotateWord(w int64, n int64) IntResult {
 	if !isWord(w) || n < 0 || n > 31 {
 		return IntResult{Code: ErrRange}
 	}
-	return IntResult{Value: int64(bits.RotateLeft32(uint32(w), -int(n)))}
+	return IntResult{Value: int64(word(w).rotate(int(n)))}
 }
 
 func PackWord(w int64) BytesResult {

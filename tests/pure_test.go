@@ -3,6 +3,8 @@ package tests
 import (
 	"bytes"
 	"math"
+	"reflect"
+	"slices"
 	"testing"
 
 	"loop.example/g00670/impl"
@@ -96,6 +98,102 @@ func TestPackWordReturnsNewMemory(t *testing.T) {
 		}
 		if !bytes.Equal(second, want) {
 			t.Errorf("PackWord(%d) is changed by a later call", w)
+		}
+	}
+}
+
+// shaCalls returns the results of all functions of chapter 2, numbers as words.
+func shaCalls(i int64, data []byte, state []int64, block []byte) ([]impl.BytesResult, []impl.WordsResult) {
+	round := impl.RoundWord(i)
+	return []impl.BytesResult{impl.PadMessage(data), impl.Sha256(data)},
+		[]impl.WordsResult{
+			{Code: round.Code, Words: []int64{round.Value}},
+			impl.ScheduleOf(block), impl.CompressBlock(state, block),
+		}
+}
+
+func TestShaReturnsForAllArguments(t *testing.T) {
+	numbers := append(anyNumbers(), 62, 63, 64, 65)
+	for _, n := range numbers {
+		impl.RoundWord(n)
+		for count := range 18 {
+			for _, size := range []int{0, 1, 63, 64, 65, 128} {
+				impl.CompressBlock(slices.Repeat([]int64{n}, count), make([]byte, size))
+			}
+		}
+	}
+	for size := range 1500 {
+		shaCalls(int64(size), make([]byte, size), make([]int64, size), make([]byte, size))
+	}
+	shaCalls(0, nil, nil, nil)
+}
+
+func TestShaDependsOnTheArgumentsOnly(t *testing.T) {
+	var allBytes [][]impl.BytesResult
+	var allWords [][]impl.WordsResult
+	for range 2 {
+		for i, size := range edgeSizes() {
+			b, w := shaCalls(int64(i), someData(size, 5), someState(uint32(i)), someData(64, uint32(i)))
+			allBytes, allWords = append(allBytes, b), append(allWords, w)
+		}
+	}
+	half := len(allBytes) / 2
+	for i := range half {
+		if !reflect.DeepEqual(allBytes[i], allBytes[half+i]) {
+			t.Errorf("first %v, and then %v", allBytes[i], allBytes[half+i])
+		}
+		if !reflect.DeepEqual(allWords[i], allWords[half+i]) {
+			t.Errorf("first %v, and then %v", allWords[i], allWords[half+i])
+		}
+	}
+}
+
+func TestShaLeavesItsArguments(t *testing.T) {
+	for _, size := range append(edgeSizes(), 701, 768) {
+		// Room behind the data, in which it could be padded, is not the callee's.
+		whole := someData(size+200, 9)
+		before := bytes.Clone(whole)
+		shaCalls(1, whole[:size], startWords(), whole[:64])
+		if !bytes.Equal(whole, before) {
+			t.Errorf("data of %d bytes is changed", size)
+		}
+	}
+	for _, block := range someBlocks() {
+		for _, state := range append(someStates(), slices.Repeat([]int64{-1}, 8)) {
+			room := append(bytes.Clone(block), someData(64, 2)...)
+			roomBefore, stateBefore := bytes.Clone(room), slices.Clone(state)
+			impl.ScheduleOf(room[:64])
+			impl.CompressBlock(state, room[:64])
+			if !bytes.Equal(room, roomBefore) || !slices.Equal(state, stateBefore) {
+				t.Errorf("the state %v or the block %v is changed", stateBefore, block)
+			}
+		}
+	}
+}
+
+func TestShaReturnsNewMemory(t *testing.T) {
+	for _, size := range edgeSizes() {
+		data := make([]byte, size, size+200)
+		copy(data, someData(size, 4))
+		state, block := someState(4), someData(64, 4)
+		wantedBytes, wantedWords := shaCalls(5, bytes.Clone(data), slices.Clone(state), bytes.Clone(block))
+		firstBytes, firstWords := shaCalls(5, data, state, block)
+		secondBytes, secondWords := shaCalls(5, data, state, block)
+		for _, b := range firstBytes {
+			clear(b.Bytes[:cap(b.Bytes)])
+		}
+		for _, w := range firstWords {
+			clear(w.Words[:cap(w.Words)])
+		}
+		thirdBytes, thirdWords := shaCalls(5, data, state, block)
+		clear(data[:cap(data)])
+		clear(state)
+		clear(block)
+		if !reflect.DeepEqual(secondBytes, wantedBytes) || !reflect.DeepEqual(thirdBytes, wantedBytes) {
+			t.Errorf("%d bytes: a result shares memory: %v, %v, want %v", size, secondBytes, thirdBytes, wantedBytes)
+		}
+		if !reflect.DeepEqual(secondWords, wantedWords) || !reflect.DeepEqual(thirdWords, wantedWords) {
+			t.Errorf("a result shares memory: %v, %v, want %v", secondWords, thirdWords, wantedWords)
 		}
 	}
 }
