@@ -197,3 +197,99 @@ func TestShaReturnsNewMemory(t *testing.T) {
 		}
 	}
 }
+
+// macCalls returns the results of all functions of chapter 3, in bytes and in numbers.
+func macCalls(key []byte, data []byte) ([]impl.BytesResult, []impl.IntResult) {
+	same := impl.IntResult{}
+	if impl.SameMac(key, data) {
+		same.Value = 1
+	}
+	return []impl.BytesResult{impl.HmacSha(key, data)},
+		[]impl.IntResult{same, impl.Crc32c(key), impl.Crc32c(data)}
+}
+
+func TestMacReturnsForAllArguments(t *testing.T) {
+	for size := range 300 {
+		for _, count := range []int{0, 1, 31, 32, 33, 64, 500, 599, 600, 601, 700, 701, 5000} {
+			macCalls(make([]byte, size), make([]byte, count))
+		}
+		macCalls(make([]byte, size), nil)
+		macCalls(nil, make([]byte, size))
+	}
+	macCalls(nil, nil)
+	for size := range 1500 {
+		data := someData(size, 40)
+		macCalls(data, data)
+	}
+}
+
+func TestMacDependsOnTheArgumentsOnly(t *testing.T) {
+	var allBytes [][]impl.BytesResult
+	var allInts [][]impl.IntResult
+	for range 2 {
+		for _, size := range append(keySizes(), 201) {
+			for _, count := range append(dataSizes(), 32, 601, 700, 701) {
+				b, n := macCalls(someData(size, 41), someData(count, 41))
+				allBytes, allInts = append(allBytes, b), append(allInts, n)
+			}
+		}
+	}
+	half := len(allBytes) / 2
+	for i := range half {
+		if !reflect.DeepEqual(allBytes[i], allBytes[half+i]) {
+			t.Errorf("first %v, and then %v", allBytes[i], allBytes[half+i])
+		}
+		if !slices.Equal(allInts[i], allInts[half+i]) {
+			t.Errorf("first %v, and then %v", allInts[i], allInts[half+i])
+		}
+	}
+}
+
+func TestMacLeavesItsArguments(t *testing.T) {
+	for _, size := range append(keySizes(), 201, 300) {
+		for _, count := range append(dataSizes(), 32, 601, 700, 701) {
+			// The data lie behind the key, where a key could be padded, and there
+			// is room behind the data.
+			whole := someData(size+count+100, 42)
+			before := bytes.Clone(whole)
+			macCalls(whole[:size], whole[size:size+count])
+			macCalls(whole[count:count+size], whole[:count])
+			macCalls(whole[:size], whole[:count])
+			if !bytes.Equal(whole, before) {
+				t.Errorf("a key of %d bytes or data of %d bytes are changed", size, count)
+			}
+		}
+	}
+}
+
+func TestMacOfArgumentsThatShareMemory(t *testing.T) {
+	whole := someData(700, 43)
+	for _, size := range keySizes() {
+		for _, count := range dataSizes() {
+			apart := impl.HmacSha(bytes.Clone(whole[:size]), bytes.Clone(whole[:count]))
+			wantBytes(t, impl.HmacSha(whole[:size], whole[:count]), apart.Bytes, "HmacSha", size, count)
+		}
+	}
+	if !impl.SameMac(whole[:32], whole[:32]) || impl.SameMac(whole[:32], whole[1:33]) {
+		t.Error("SameMac of bytes that share memory")
+	}
+}
+
+func TestMacReturnsNewMemory(t *testing.T) {
+	for _, size := range keySizes() {
+		for _, count := range dataSizes() {
+			key, data := make([]byte, size, 300), make([]byte, count, 800)
+			copy(key, someData(size, 44))
+			copy(data, someData(count, 45))
+			want := bytes.Clone(impl.HmacSha(key, data).Bytes)
+			first, second := impl.HmacSha(key, data).Bytes, impl.HmacSha(key, data).Bytes
+			clear(first[:cap(first)])
+			third := impl.HmacSha(key, data).Bytes
+			clear(key[:cap(key)])
+			clear(data[:cap(data)])
+			if !bytes.Equal(second, want) || !bytes.Equal(third, want) {
+				t.Errorf("%d and %d bytes: a result shares memory: %v, %v, want %v", size, count, second, third, want)
+			}
+		}
+	}
+}
