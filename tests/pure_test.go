@@ -293,3 +293,165 @@ func TestMacReturnsNewMemory(t *testing.T) {
 		}
 	}
 }
+
+// packetResults are the results of all functions of chapter 4.
+type packetResults struct {
+	chunkFault  int64
+	chunk       impl.BytesResult
+	packetFault int64
+	packet      impl.BytesResult
+	read        impl.PacketResult
+	action      impl.IntResult
+	same        bool
+}
+
+func packetCalls(c impl.Chunk, p impl.Packet, data []byte) packetResults {
+	return packetResults{
+		impl.ChunkFault(c), impl.PackChunk(c), impl.PacketFault(p), impl.PackPacket(p),
+		impl.ReadPacket(data), impl.ActionOf(c.Kind), impl.SamePackets(p, impl.Packet{Chunks: []impl.Chunk{c}}),
+	}
+}
+
+// spoil changes all memory that the results hold, the spare capacity too.
+func (r packetResults) spoil() {
+	clear(r.chunk.Bytes[:cap(r.chunk.Bytes)])
+	clear(r.packet.Bytes[:cap(r.packet.Bytes)])
+	chunks := r.read.Packet.Chunks
+	for _, c := range chunks {
+		clear(c.Body[:cap(c.Body)])
+	}
+	clear(chunks[:cap(chunks)])
+}
+
+func TestPacketsReturnForAllArguments(t *testing.T) {
+	numbers := append(anyNumbers(), badBytes()...)
+	for _, kind := range numbers {
+		for _, flags := range numbers {
+			for _, size := range []int{0, 1, 4, 160, 161, 1000} {
+				c := impl.Chunk{Kind: kind, Flags: flags, Body: make([]byte, size)}
+				packetCalls(c, impl.Packet{Tag: kind, Chunks: []impl.Chunk{c, c}}, c.Body)
+			}
+		}
+		for count := range 20 {
+			packetCalls(impl.Chunk{}, impl.Packet{Tag: kind, Chunks: make([]impl.Chunk, count)}, nil)
+		}
+	}
+	packetCalls(impl.Chunk{}, impl.Packet{}, nil)
+	for size := range 1500 {
+		data := someData(size, 50)
+		impl.ReadPacket(data)
+		impl.ReadPacket(make([]byte, size))
+		if size >= 8 && size <= impl.MaxText {
+			impl.ReadPacket(sealed(data))
+			impl.ReadPacket(sealed(make([]byte, size)))
+		}
+	}
+	// Every length of a chunk, with every number of bytes behind it.
+	for size := range 65536 {
+		behind := size%37 + size%8*16
+		impl.ReadPacket(sealed(head(), []byte{0, 0, byte(size >> 8), byte(size)}, make([]byte, behind)))
+	}
+	for size := range 300 {
+		for behind := range 300 {
+			impl.ReadPacket(sealed(head(), []byte{0, 0, byte(size >> 8), byte(size)}, make([]byte, behind)))
+		}
+	}
+}
+
+func TestPacketsDependOnTheArgumentsOnly(t *testing.T) {
+	var results []packetResults
+	packets := append(somePackets(), tooLargePackets()...)
+	for range 2 {
+		for _, p := range packets {
+			results = append(results, packetCalls(p.Chunks[0], p, packetElsewhere(p)))
+			results = append(results, packetCalls(impl.Chunk{Kind: -1}, impl.Packet{}, sealed(head(), []byte{1})))
+		}
+	}
+	half := len(results) / 2
+	for i := range half {
+		if !reflect.DeepEqual(results[i], results[half+i]) {
+			t.Errorf("first %+v, and then %+v", results[i], results[half+i])
+		}
+	}
+}
+
+func TestPacketsLeaveTheirArguments(t *testing.T) {
+	for _, p := range append(somePackets(), tooLargePackets()...) {
+		// The bodies lie one behind the other in the same memory, and there is
+		// room behind them and behind the chunks.
+		var whole []byte
+		for _, c := range p.Chunks {
+			whole = append(whole, c.Body...)
+		}
+		whole = append(whole, someData(200, 51)...)
+		chunks, rest := make([]impl.Chunk, len(p.Chunks), 20), whole
+		for i, c := range p.Chunks {
+			chunks[i] = impl.Chunk{Kind: c.Kind, Flags: c.Flags, Body: rest[:len(c.Body)]}
+			rest = rest[len(c.Body):]
+		}
+		data := append(packetElsewhere(p), someData(200, 52)...)
+		size := len(data) - 200
+		wholeBefore, dataBefore := bytes.Clone(whole), bytes.Clone(data)
+		for _, c := range chunks {
+			packetCalls(c, impl.Packet{Tag: p.Tag, Chunks: chunks}, data[:size])
+			packetCalls(c, impl.Packet{Tag: -1, Chunks: chunks}, data[:size-1])
+		}
+		if !slices.EqualFunc(chunks, p.Chunks, equalChunks) || !reflect.DeepEqual(chunks[len(chunks):20], make([]impl.Chunk, 20-len(chunks))) {
+			t.Errorf("the chunks %+v are changed to %+v", p.Chunks, chunks[:20])
+		}
+		if !bytes.Equal(whole, wholeBefore) || !bytes.Equal(data, dataBefore) {
+			t.Errorf("the bodies or the bytes of %+v are changed", p)
+		}
+	}
+}
+
+func TestUnreadableDataAreLeft(t *testing.T) {
+	for _, p := range somePackets() {
+		data := packetElsewhere(p)
+		for _, bad := range [][]byte{sealed(data[:len(data)-1]), sealed(data, []byte{1, 2, 3, 4}), append(bytes.Clone(data), 0)} {
+			before := bytes.Clone(bad)
+			if got := impl.ReadPacket(bad); got.Code == impl.OK || !bytes.Equal(bad, before) {
+				t.Errorf("ReadPacket(%v) = %+v, and leaves %v", before, got, bad)
+			}
+		}
+	}
+}
+
+func TestPacketsReturnNewMemory(t *testing.T) {
+	for _, p := range somePackets() {
+		own, data := copied(p), packetElsewhere(p)
+		want := packetCalls(copied(p).Chunks[0], copied(p), bytes.Clone(data))
+		first := packetCalls(own.Chunks[0], own, data)
+		second := packetCalls(own.Chunks[0], own, data)
+		first.spoil()
+		third := packetCalls(own.Chunks[0], own, data)
+		clear(data)
+		for _, c := range own.Chunks {
+			clear(c.Body)
+		}
+		clear(own.Chunks)
+		if !reflect.DeepEqual(second, want) || !reflect.DeepEqual(third, want) {
+			t.Errorf("%+v: a result shares memory: %+v, %+v, want %+v", p, second, third, want)
+		}
+	}
+}
+
+func TestBodiesOfAReadPacketShareNoMemory(t *testing.T) {
+	for _, p := range somePackets() {
+		for place := range p.Chunks {
+			read := impl.ReadPacket(packetElsewhere(p)).Packet
+			// What lies behind a body must not be the next one.
+			body := read.Chunks[place].Body
+			for _, b := range [][]byte{body[:cap(body)], append(body, someData(200, 53)...)} {
+				for i := range b {
+					b[i] ^= 255
+				}
+			}
+			for other, c := range read.Chunks {
+				if other != place && !bytes.Equal(c.Body, p.Chunks[other].Body) {
+					t.Errorf("%+v: body %d shares memory with body %d", p, other, place)
+				}
+			}
+		}
+	}
+}
