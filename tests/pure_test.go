@@ -455,3 +455,196 @@ func TestBodiesOfAReadPacketShareNoMemory(t *testing.T) {
 		}
 	}
 }
+
+// span is the memory of a slice, the spare capacity too.
+type span struct{ from, to uintptr }
+
+// spansOf returns the memory of all slices in a value.
+func spansOf(v reflect.Value) []span {
+	var list []span
+	switch v.Kind() {
+	case reflect.Slice:
+		if size := uintptr(v.Cap()) * v.Type().Elem().Size(); size > 0 {
+			list = append(list, span{v.Pointer(), v.Pointer() + size})
+		}
+		for i := range v.Len() {
+			list = append(list, spansOf(v.Index(i))...)
+		}
+	case reflect.Struct:
+		for i := range v.NumField() {
+			list = append(list, spansOf(v.Field(i))...)
+		}
+	}
+	return list
+}
+
+// wantNoShare wants that no two slices share memory within the results of two calls,
+// nor one of them with the arguments.
+func wantNoShare(t *testing.T, arguments any, first any, second any) {
+	t.Helper()
+	given := spansOf(reflect.ValueOf(arguments))
+	results := append(spansOf(reflect.ValueOf(first)), spansOf(reflect.ValueOf(second))...)
+	for i, r := range results {
+		for _, other := range append(results[:i:i], given...) {
+			if r.from < other.to && other.from < r.to {
+				t.Errorf("arguments %+v, results %+v and %+v: two slices share memory", arguments, first, second)
+				return
+			}
+		}
+	}
+}
+
+// contents are arguments of all functions of chapter 5.
+type contents struct {
+	data   impl.Data
+	sack   impl.Sack
+	init   impl.Init
+	kind   int64
+	asconf impl.Asconf
+	answer impl.Answer
+	chunk  impl.Chunk
+}
+
+// contentResults are the results of all functions of chapter 5.
+type contentResults struct {
+	packedData, packedSack, packedInit, packedAsconf, packedAnswer impl.ChunkResult
+
+	data   impl.DataResult
+	sack   impl.SackResult
+	init   impl.InitResult
+	asconf impl.AsconfResult
+	answer impl.AnswerResult
+}
+
+func contentCalls(a contents) contentResults {
+	return contentResults{
+		impl.PackData(a.data), impl.PackSack(a.sack), impl.PackInit(a.init, a.kind), impl.PackAsconf(a.asconf), impl.PackAnswer(a.answer),
+		impl.ReadData(a.chunk), impl.ReadSack(a.chunk), impl.ReadInit(a.chunk), impl.ReadAsconf(a.chunk), impl.ReadAnswer(a.chunk),
+	}
+}
+
+// someContents include ones with a fault, and chunks that cannot be read.
+func someContents() []contents {
+	datas, sacks, inits, asconfs, answers := someDatas(), someSacks(), someInits(), someAsconfs(), someAnswers()
+	var list []contents
+	for i := range 400 {
+		g := inits[i%len(inits)]
+		a := contents{datas[i%len(datas)], sacks[i%len(sacks)], g.Init, g.Kind, asconfs[i%len(asconfs)], answers[i%len(answers)], impl.Chunk{}}
+		for _, c := range []impl.Chunk{
+			packDataElsewhere(a.data), packSackElsewhere(a.sack), packInitElsewhere(g), packAsconfElsewhere(a.asconf), packAnswerElsewhere(a.answer),
+		} {
+			a.chunk = c
+			list = append(list, a)
+			a.chunk.Body = c.Body[:len(c.Body)-1]
+			list = append(list, a)
+		}
+		a.data.Seq, a.data.Unordered = 9, true
+		a.sack.Gaps = append(slices.Clone(a.sack.Gaps), impl.Gap{From: 1})
+		a.init.Addrs = append(slices.Clone(a.init.Addrs), a.init.Addrs[0])
+		a.asconf.Ops = append(slices.Clone(a.asconf.Ops), impl.AddrOp{})
+		a.answer.Codes = append(slices.Clone(a.answer.Codes), -1)
+		a.chunk.Body = someData(160+i%2, uint32(i))
+		list = append(list, a)
+	}
+	return append(list, contents{}, contents{kind: 1, chunk: impl.Chunk{Kind: -1}})
+}
+
+// roomy returns a copy with spare capacity, in which the elements are repeated.
+func roomy[T any](list []T) []T {
+	return append(slices.Clone(list), slices.Repeat(list, 20)...)[:len(list)]
+}
+
+// roomyContents returns a copy of the arguments with spare capacity behind each list.
+func roomyContents(a contents) contents {
+	a.data.Piece, a.sack.Gaps, a.init.Addrs = roomy(a.data.Piece), roomy(a.sack.Gaps), roomy(a.init.Addrs)
+	a.init.Random, a.init.Cookie = roomy(a.init.Random), roomy(a.init.Cookie)
+	a.asconf.Ops, a.answer.Codes, a.chunk.Body = roomy(a.asconf.Ops), roomy(a.answer.Codes), roomy(a.chunk.Body)
+	return a
+}
+
+// extended shows the spare capacity too.
+func (a contents) extended() string {
+	a.data.Piece, a.sack.Gaps, a.init.Addrs = a.data.Piece[:cap(a.data.Piece)], a.sack.Gaps[:cap(a.sack.Gaps)], a.init.Addrs[:cap(a.init.Addrs)]
+	a.init.Random, a.init.Cookie = a.init.Random[:cap(a.init.Random)], a.init.Cookie[:cap(a.init.Cookie)]
+	a.asconf.Ops, a.answer.Codes, a.chunk.Body = a.asconf.Ops[:cap(a.asconf.Ops)], a.answer.Codes[:cap(a.answer.Codes)], a.chunk.Body[:cap(a.chunk.Body)]
+	return told(a)
+}
+
+func TestContentsReturnForAllArguments(t *testing.T) {
+	numbers := append(anyNumbers(), badBytes()...)
+	for i, n := range numbers {
+		m := numbers[(i*7+3)%len(numbers)]
+		for _, size := range []int{0, 1, 4, 5, 16, 20, 21, 100, 101, 1000} {
+			data := make([]byte, size)
+			contentCalls(contents{
+				data: impl.Data{Tsn: n, Stream: m, Seq: n, Unordered: true, Piece: data},
+				sack: impl.Sack{Cum: n, Gaps: slices.Repeat([]impl.Gap{{From: n, To: m}, {From: m, To: n}}, size)},
+				init: impl.Init{Tag: n, Tsn: m, Random: data, Addrs: slices.Repeat([]int64{n, m}, size), Cookie: data},
+				kind: m, asconf: impl.Asconf{Serial: n, Ops: slices.Repeat([]impl.AddrOp{{Kind: n, Addr: m}}, size)},
+				answer: impl.Answer{Serial: n, Codes: slices.Repeat([]int64{m}, size)},
+				chunk:  impl.Chunk{Kind: n, Flags: m, Body: data},
+			})
+			contentCalls(contents{
+				data: impl.Data{Tsn: 1, Piece: data}, sack: impl.Sack{Gaps: []impl.Gap{{From: 2, To: n}, {From: m, To: 9}}},
+				init: impl.Init{Tag: 1, Random: make([]byte, 16), Addrs: []int64{n, m}, Cookie: data},
+				kind: 1, asconf: impl.Asconf{Ops: []impl.AddrOp{{Kind: 1, Addr: n}}}, answer: impl.Answer{Codes: []int64{n}},
+				chunk: impl.Chunk{Kind: n, Body: data},
+			})
+		}
+	}
+	contentCalls(contents{})
+	for kind := range int64(256) {
+		for size := range 180 {
+			contentCalls(contents{chunk: impl.Chunk{Kind: kind, Flags: int64(size % 9), Body: someData(size, uint32(kind))}})
+			contentCalls(contents{chunk: impl.Chunk{Kind: kind, Body: bytes.Repeat([]byte{255}, size)}})
+		}
+	}
+}
+
+func TestContentsDependOnTheArgumentsOnly(t *testing.T) {
+	list := someContents()
+	first := make([]contentResults, len(list))
+	for i, a := range list {
+		first[i] = contentCalls(a)
+	}
+	for i, a := range slices.Backward(list) {
+		if got := contentCalls(a); !reflect.DeepEqual(got, first[i]) {
+			t.Errorf("first %+v, and then %+v", first[i], got)
+		}
+		if got := contentCalls(roomyContents(a)); told(got) != told(first[i]) {
+			t.Errorf("%+v, and with spare capacity %+v", first[i], got)
+		}
+	}
+}
+
+func TestContentsLeaveTheirArguments(t *testing.T) {
+	for _, a := range someContents() {
+		own := roomyContents(a)
+		before := own.extended()
+		contentCalls(own)
+		if own.extended() != before {
+			t.Errorf("the arguments %+v are changed to %+v", before, own)
+		}
+	}
+}
+
+func TestContentsReturnNewMemory(t *testing.T) {
+	for _, a := range someContents() {
+		own := roomyContents(a)
+		wantNoShare(t, own, contentCalls(own), contentCalls(own))
+	}
+}
+
+func TestContentsOfArgumentsThatShareMemory(t *testing.T) {
+	whole := someData(100, 70)
+	i := impl.Init{Tag: 3, Tsn: 4, Random: whole[:16], Addrs: []int64{5}, Cookie: whole}
+	want := packInitElsewhere(greeting{impl.Init{Tag: 3, Tsn: 4, Random: bytes.Clone(whole[:16]), Addrs: []int64{5}, Cookie: bytes.Clone(whole)}, 1})
+	if got := impl.PackInit(i, 1); got.Code != impl.OK || !equalChunks(got.Chunk, want) {
+		t.Errorf("PackInit of bytes that share memory = %+v, want %+v", got, want)
+	}
+	read := impl.ReadInit(want).Init
+	clear(read.Random)
+	if !bytes.Equal(read.Cookie, whole) {
+		t.Errorf("the cookie %v shares memory with the random", read.Cookie)
+	}
+}
