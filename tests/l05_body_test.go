@@ -547,17 +547,9 @@ func numberBreaches[T any](rank int, code int64, field func(v *T) *int64, wrong 
 	return list
 }
 
-// wantBreaches makes the breaches in values that are in order, and then every two
-// of them, in both orders.
-func (k codec[T]) wantBreaches(t *testing.T, valid func() T, breaches ...[]breach[T]) {
-	t.Helper()
-	all := slices.Concat(breaches...)
-	k.wantPacked(t, valid(), k.packElsewhere(valid()))
-	for _, b := range all {
-		v := valid()
-		b.make(&v)
-		k.wantUnpackable(t, v, b.code)
-	}
+// eachPair makes every two of the breaches in values that are in order, in both
+// orders.
+func eachPair[T any](valid func() T, all []breach[T], check func(v T, code int64)) {
 	for _, first := range all {
 		for _, second := range all {
 			if first.rank >= second.rank {
@@ -568,10 +560,27 @@ func (k codec[T]) wantBreaches(t *testing.T, valid func() T, breaches ...[]breac
 			second.make(&v)
 			second.make(&w)
 			first.make(&w)
-			k.wantCode(t, v, first.code)
-			k.wantCode(t, w, first.code)
+			check(v, first.code)
+			check(w, first.code)
 		}
 	}
+}
+
+// wantBreaches makes the breaches in values that are in order, and then every two
+// of them.
+func (k codec[T]) wantBreaches(t *testing.T, valid func() T, breaches ...[]breach[T]) {
+	t.Helper()
+	all := slices.Concat(breaches...)
+	k.wantPacked(t, valid(), k.packElsewhere(valid()))
+	for _, b := range all {
+		v := valid()
+		b.make(&v)
+		k.wantUnpackable(t, v, b.code)
+	}
+	eachPair(valid, all, func(v T, code int64) {
+		t.Helper()
+		k.wantCode(t, v, code)
+	})
 }
 
 // notFrom returns numbers outside of a range, some of which have low bits that are
@@ -686,35 +695,40 @@ func TestGapsThatTouch(t *testing.T) {
 	k.wantUnpackable(t, impl.Sack{Gaps: []impl.Gap{{From: 2, To: 65535}, {From: 2, To: 2}}}, impl.ErrForm)
 }
 
-func TestInitsWithFaults(t *testing.T) {
+// initBreaches are those of the Init of a greeting with five Addrs.
+func initBreaches() []breach[greeting] {
 	many := func(rank int, make func(v *greeting)) []breach[greeting] {
 		return []breach[greeting]{{rank, impl.ErrMany, make}}
 	}
+	var sizes [][]breach[greeting]
+	for _, size := range []int{0, 1, 15, 17, 32, 272} {
+		sizes = append(sizes, many(4, func(v *greeting) { v.Random = make([]byte, size) }))
+	}
+	for _, count := range []int{0, 6, 7, 10, 256, 257, 261} {
+		sizes = append(sizes, many(5, func(v *greeting) { v.Addrs = gapsAsAddrs(count) }))
+	}
+	for _, size := range []int{101, 102, 160, 256, 257, 356} {
+		sizes = append(sizes, many(20, func(v *greeting) { v.Cookie = make([]byte, size) }))
+	}
+	sizes = append(sizes, many(5, func(v *greeting) { v.Addrs = nil }), many(4, func(v *greeting) { v.Random = nil }))
+	for place := range impl.MaxAddrs {
+		sizes = append(sizes, addrBreaches(place))
+	}
+	return slices.Concat(append(sizes,
+		numberBreaches(2, impl.ErrRange, func(v *greeting) *int64 { return &v.Tag }, append(noWords(), 0)...),
+		numberBreaches(3, impl.ErrRange, func(v *greeting) *int64 { return &v.Tsn }, noWords()...),
+	)...)
+}
+
+func TestInitsWithFaults(t *testing.T) {
 	for _, kind := range []int64{impl.KindInit, impl.KindInitAck} {
 		valid := func() greeting {
 			i := impl.Init{Tag: 1, Tsn: 2, Random: someData(16, 63), Addrs: []int64{7, 255, 1, 8, 9}, Cookie: []byte{4}}
 			return greeting{i, kind}
 		}
-		var sizes [][]breach[greeting]
-		for _, size := range []int{0, 1, 15, 17, 32, 272} {
-			sizes = append(sizes, many(4, func(v *greeting) { v.Random = make([]byte, size) }))
-		}
-		for _, count := range []int{0, 6, 7, 10, 256, 257, 261} {
-			sizes = append(sizes, many(5, func(v *greeting) { v.Addrs = gapsAsAddrs(count) }))
-		}
-		for _, size := range []int{101, 102, 160, 256, 257, 356} {
-			sizes = append(sizes, many(20, func(v *greeting) { v.Cookie = make([]byte, size) }))
-		}
-		sizes = append(sizes, many(5, func(v *greeting) { v.Addrs = nil }), many(4, func(v *greeting) { v.Random = nil }))
-		for place := range impl.MaxAddrs {
-			sizes = append(sizes, addrBreaches(place))
-		}
-		initCodec().wantBreaches(t, valid, append(sizes,
+		initCodec().wantBreaches(t, valid, initBreaches(),
 			numberBreaches(1, impl.ErrRange, func(v *greeting) *int64 { return &v.Kind }, notFrom(1, 2)...),
-			numberBreaches(1, impl.ErrRange, func(v *greeting) *int64 { return &v.Kind }, someKinds()[3:]...),
-			numberBreaches(2, impl.ErrRange, func(v *greeting) *int64 { return &v.Tag }, append(noWords(), 0)...),
-			numberBreaches(3, impl.ErrRange, func(v *greeting) *int64 { return &v.Tsn }, noWords()...),
-		)...)
+			numberBreaches(1, impl.ErrRange, func(v *greeting) *int64 { return &v.Kind }, someKinds()[3:]...))
 	}
 }
 

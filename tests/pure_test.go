@@ -648,3 +648,170 @@ func TestContentsOfArgumentsThatShareMemory(t *testing.T) {
 		t.Errorf("the cookie %v shares memory with the random", read.Cookie)
 	}
 }
+
+// keyArguments are arguments of all functions of chapter 6.
+type keyArguments struct {
+	list  []impl.Secret
+	other []impl.Secret
+	put   impl.Secret
+	init  impl.Init
+	id    int64
+	bytes []byte
+	a, b  []byte
+}
+
+// keyResults are the results of all functions of chapter 6.
+type keyResults struct {
+	fault     int64
+	vector    impl.BytesResult
+	joined    impl.BytesResult
+	key       impl.BytesResult
+	list      impl.SecretsResult
+	same      bool
+	sameOther bool
+}
+
+func keyCalls(k keyArguments) keyResults {
+	return keyResults{
+		impl.SecretsFault(k.list), impl.VectorOf(k.init), impl.JoinKey(k.bytes, k.a, k.b), impl.KeyOf(k.list, k.id, k.a, k.b),
+		impl.PutSecret(k.list, k.put), impl.SameSecrets(k.list, k.list), impl.SameSecrets(k.list, k.other),
+	}
+}
+
+// someKeyArguments include ones with a fault.
+func someKeyArguments() []keyArguments {
+	lists, pairs, inits := someSecrets(), vectorPairs(), someInits()
+	for text := range faultyLists() {
+		lists = append(lists, listOf(text))
+	}
+	var all []keyArguments
+	for i, list := range lists {
+		pair := pairs[i%len(pairs)]
+		k := keyArguments{list: list, other: lists[(i+1)%len(lists)], init: inits[i%len(inits)].Init, a: pair[0], b: pair[1]}
+		k.bytes = someData(i%41, 90)
+		for _, id := range []int64{0, 1, 2, 51, 98, 99, 100} {
+			for _, size := range []int{0, 7, 40, 41} {
+				k.id, k.put = id, secretOf(id, size)
+				all = append(all, k)
+			}
+		}
+		k.a, k.bytes = k.a[:19], someData(41, 91)
+		k.init.Random = k.init.Random[:15]
+		all = append(all, k)
+	}
+	return append(all, keyArguments{})
+}
+
+// roomySecrets returns a copy with spare capacity behind the list and all bytes.
+func roomySecrets(list []impl.Secret) []impl.Secret {
+	own := copiedSecrets(list)
+	for i, s := range own {
+		own[i].Bytes = roomy(s.Bytes)
+	}
+	return slices.Repeat(own, 2)[:len(own)]
+}
+
+// extendedSecrets shows the spare capacity too.
+func extendedSecrets(list []impl.Secret) []impl.Secret {
+	own := slices.Clone(list[:cap(list)])
+	for i, s := range own {
+		own[i].Bytes = s.Bytes[:cap(s.Bytes)]
+	}
+	return own
+}
+
+func roomyKeyArguments(k keyArguments) keyArguments {
+	k.list, k.other = roomySecrets(k.list), roomySecrets(k.other)
+	k.put.Bytes, k.bytes, k.a, k.b = roomy(k.put.Bytes), roomy(k.bytes), roomy(k.a), roomy(k.b)
+	k.init.Random, k.init.Addrs, k.init.Cookie = roomy(k.init.Random), roomy(k.init.Addrs), roomy(k.init.Cookie)
+	return k
+}
+
+// extended shows the spare capacity too.
+func (k keyArguments) extended() string {
+	k.list, k.other = extendedSecrets(k.list), extendedSecrets(k.other)
+	k.put.Bytes, k.bytes, k.a, k.b = k.put.Bytes[:cap(k.put.Bytes)], k.bytes[:cap(k.bytes)], k.a[:cap(k.a)], k.b[:cap(k.b)]
+	k.init.Random, k.init.Addrs, k.init.Cookie = k.init.Random[:cap(k.init.Random)], k.init.Addrs[:cap(k.init.Addrs)], k.init.Cookie[:cap(k.init.Cookie)]
+	return told(k)
+}
+
+func TestKeysReturnForAllArguments(t *testing.T) {
+	numbers := append(anyNumbers(), badIds()...)
+	for i, n := range numbers {
+		m := numbers[(i*7+3)%len(numbers)]
+		for _, size := range []int{0, 1, 4, 5, 16, 20, 21, 40, 41, 1000} {
+			data := make([]byte, size)
+			list := slices.Repeat([]impl.Secret{{Id: n, Bytes: data}, {Id: m}}, size)
+			keyCalls(keyArguments{
+				list: list, other: list[:size], put: impl.Secret{Id: m, Bytes: data}, id: n, bytes: data, a: data, b: data,
+				init: impl.Init{Tag: n, Tsn: m, Random: data, Addrs: slices.Repeat([]int64{n, m}, size), Cookie: data},
+			})
+			keyCalls(keyArguments{
+				list: []impl.Secret{{Id: n, Bytes: data}}, put: impl.Secret{Id: n, Bytes: data}, id: n, bytes: data, a: make([]byte, 20), b: data,
+				init: impl.Init{Tag: 1, Random: make([]byte, 16), Addrs: []int64{n}, Cookie: data},
+			})
+			keyCalls(keyArguments{list: []impl.Secret{{Id: 0}, {Id: n}, {Id: m, Bytes: data}}, id: m, a: make([]byte, 20), b: make([]byte, 20)})
+		}
+	}
+	keyCalls(keyArguments{})
+	keyCalls(keyArguments{list: []impl.Secret{}, other: []impl.Secret{{}}, bytes: []byte{}, a: []byte{}, b: []byte{}})
+}
+
+func TestKeysDependOnTheArgumentsOnly(t *testing.T) {
+	list := someKeyArguments()
+	first := make([]keyResults, len(list))
+	for i, k := range list {
+		first[i] = keyCalls(k)
+	}
+	for i, k := range slices.Backward(list) {
+		// A map that is ranged over in another order must not be seen.
+		for range 3 {
+			if got := keyCalls(k); told(got) != told(first[i]) {
+				t.Errorf("first %+v, and then %+v", first[i], got)
+			}
+		}
+		if got := keyCalls(roomyKeyArguments(k)); told(got) != told(first[i]) {
+			t.Errorf("%+v, and with spare capacity %+v", first[i], got)
+		}
+	}
+}
+
+func TestKeysLeaveTheirArguments(t *testing.T) {
+	for _, k := range someKeyArguments() {
+		own := roomyKeyArguments(k)
+		before := own.extended()
+		keyCalls(own)
+		if own.extended() != before {
+			t.Errorf("the arguments %+v are changed to %+v", before, own)
+		}
+	}
+}
+
+func TestKeysReturnNewMemory(t *testing.T) {
+	for _, k := range someKeyArguments() {
+		own := roomyKeyArguments(k)
+		wantNoShare(t, own, keyCalls(own), keyCalls(own))
+	}
+}
+
+func TestKeysOfArgumentsThatShareMemory(t *testing.T) {
+	whole := someData(100, 92)
+	for from := range 80 {
+		for size := range 41 {
+			secret, a, b := whole[:size], whole[from:from+20], whole[10:30]
+			want := keyElsewhere(bytes.Clone(secret), bytes.Clone(a), bytes.Clone(b))
+			wantBytes(t, impl.JoinKey(secret, a, b), want, "JoinKey", secret, a, b)
+			wantBytes(t, impl.KeyOf([]impl.Secret{{Id: 5, Bytes: secret}}, 5, a, b), want, "KeyOf", secret, a, b)
+		}
+	}
+	// All secrets have the same bytes in the same memory, and the one put has them too.
+	list := []impl.Secret{{Id: 1, Bytes: whole[:9]}, {Id: 2, Bytes: whole[:9]}, {Id: 3, Bytes: whole[:9]}}
+	for id := range int64(5) {
+		s := impl.Secret{Id: id, Bytes: whole[:9]}
+		first, second := impl.PutSecret(list, s), impl.PutSecret(list, s)
+		wantNoShare(t, list, first, second)
+		wantSecrets(t, first, putElsewhere(list, s).List, list, s)
+	}
+	i := impl.Init{Tag: 3, Random: whole[:16], Addrs: []int64{5}, Cookie: whole}
+	wantBytes(t, impl.VectorOf(i), vectorElsewhere(i), "VectorOf", i)
+}
