@@ -626,13 +626,18 @@ func wantSame(t *testing.T, a impl.Packet, b impl.Packet, want bool) {
 	}
 }
 
+// copiedChunks returns equal chunks in memory of their own.
+func copiedChunks(chunks []impl.Chunk) []impl.Chunk {
+	own := slices.Clone(chunks)
+	for i, c := range own {
+		own[i].Body = bytes.Clone(c.Body)
+	}
+	return own
+}
+
 // copied returns an equal packet in memory of its own.
 func copied(p impl.Packet) impl.Packet {
-	chunks := slices.Clone(p.Chunks)
-	for i, c := range chunks {
-		chunks[i].Body = bytes.Clone(c.Body)
-	}
-	return impl.Packet{Tag: p.Tag, Chunks: chunks}
+	return impl.Packet{Tag: p.Tag, Chunks: copiedChunks(p.Chunks)}
 }
 
 func TestSamePackets(t *testing.T) {

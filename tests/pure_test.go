@@ -815,3 +815,151 @@ func TestKeysOfArgumentsThatShareMemory(t *testing.T) {
 	i := impl.Init{Tag: 3, Random: whole[:16], Addrs: []int64{5}, Cookie: whole}
 	wantBytes(t, impl.VectorOf(i), vectorElsewhere(i), "VectorOf", i)
 }
+
+// authArguments are arguments of all functions of chapter 7. The digests of the tagged
+// chunks may be wrong.
+type authArguments struct {
+	id     int64
+	key    []byte
+	chunks []impl.Chunk
+	tagged []impl.Chunk
+}
+
+// authResults are the results of all functions of chapter 7.
+type authResults struct {
+	needs     bool
+	text      impl.BytesResult
+	protected impl.ChunksResult
+	found     impl.AuthResult
+	checked   impl.AuthResult
+}
+
+func authCalls(a authArguments) authResults {
+	return authResults{
+		impl.NeedsAuth(a.id), impl.MacText(a.id, a.chunks), impl.ProtectChunks(a.id, a.key, a.chunks),
+		impl.FindAuth(a.tagged), impl.CheckAuth(a.key, a.tagged),
+	}
+}
+
+// someAuthArguments include ones with a fault.
+func someAuthArguments() []authArguments {
+	lists := slices.Concat(someChunkLists(), tooLargeTexts(), [][]impl.Chunk{make([]impl.Chunk, 8), {{Kind: 256}}, {{}, {Body: make([]byte, 161)}}})
+	keys := append(authKeys(), longKeys()[0])
+	var all []authArguments
+	for i, list := range lists {
+		key := keys[i%len(keys)]
+		for _, id := range []int64{0, 3, 99, 100} {
+			protected := protectElsewhere(id, key, list)
+			a := authArguments{id: id, key: key, chunks: list, tagged: protected}
+			all = append(all, a)
+			a.tagged = slices.Concat(chunksOf(3, 0), protected)
+			all = append(all, a)
+			a.tagged = changedChunks(protected, 0, func(c *impl.Chunk) { c.Body[20] ^= 1 })
+			all = append(all, a)
+			a.tagged = list
+			all = append(all, a)
+		}
+	}
+	return append(all, authArguments{})
+}
+
+// roomyChunks returns a copy with spare capacity behind the list and all bodies.
+func roomyChunks(list []impl.Chunk) []impl.Chunk {
+	own := copiedChunks(list)
+	for i, c := range own {
+		own[i].Body = roomy(c.Body)
+	}
+	return slices.Repeat(own, 2)[:len(own)]
+}
+
+// extendedChunks shows the spare capacity too.
+func extendedChunks(list []impl.Chunk) []impl.Chunk {
+	own := slices.Clone(list[:cap(list)])
+	for i, c := range own {
+		own[i].Body = c.Body[:cap(c.Body)]
+	}
+	return own
+}
+
+func roomyAuthArguments(a authArguments) authArguments {
+	return authArguments{a.id, roomy(a.key), roomyChunks(a.chunks), roomyChunks(a.tagged)}
+}
+
+// extended shows the spare capacity too.
+func (a authArguments) extended() string {
+	return told(authArguments{a.id, a.key[:cap(a.key)], extendedChunks(a.chunks), extendedChunks(a.tagged)})
+}
+
+func TestAuthReturnsForAllArguments(t *testing.T) {
+	numbers := slices.Concat(anyNumbers(), badBytes(), badIds(), []int64{impl.KindAuth})
+	for i, n := range numbers {
+		m := numbers[(i*7+3)%len(numbers)]
+		for _, size := range []int{0, 1, 2, 32, 33, 34, 35, 160, 161, 200, 201, 1000} {
+			data := make([]byte, size)
+			for _, c := range []impl.Chunk{{Kind: n, Flags: m, Body: data}, {Kind: impl.KindAuth, Flags: n, Body: data}, {Kind: impl.KindAuth, Body: data}} {
+				for _, count := range []int{0, 1, 2, 7, 8, 9, 300} {
+					chunks := slices.Repeat([]impl.Chunk{c}, count)
+					authCalls(authArguments{n, data, chunks, chunks})
+					authCalls(authArguments{3, nil, append([]impl.Chunk{{}}, chunks...), append(chunks, impl.Chunk{Kind: impl.KindAuth, Body: data})})
+				}
+			}
+		}
+	}
+	authCalls(authArguments{})
+	authCalls(authArguments{key: []byte{}, chunks: []impl.Chunk{}, tagged: []impl.Chunk{}})
+}
+
+func TestAuthDependsOnTheArgumentsOnly(t *testing.T) {
+	list := someAuthArguments()
+	first := make([]authResults, len(list))
+	for i, a := range list {
+		first[i] = authCalls(a)
+	}
+	for i, a := range slices.Backward(list) {
+		if got := authCalls(a); told(got) != told(first[i]) {
+			t.Errorf("first %+v, and then %+v", first[i], got)
+		}
+		if got := authCalls(roomyAuthArguments(a)); told(got) != told(first[i]) {
+			t.Errorf("%+v, and with spare capacity %+v", first[i], got)
+		}
+	}
+}
+
+func TestAuthLeavesItsArguments(t *testing.T) {
+	for _, a := range someAuthArguments() {
+		own := roomyAuthArguments(a)
+		before := own.extended()
+		authCalls(own)
+		if own.extended() != before {
+			t.Errorf("the arguments %+v are changed to %+v", before, own)
+		}
+	}
+}
+
+func TestAuthReturnsNewMemory(t *testing.T) {
+	for _, a := range someAuthArguments() {
+		own := roomyAuthArguments(a)
+		wantNoShare(t, own, authCalls(own), authCalls(own))
+	}
+}
+
+func TestAuthOfArgumentsThatShareMemory(t *testing.T) {
+	whole := someData(200, 93)
+	for size := range 150 {
+		// All bodies and the key lie in the same memory.
+		chunks := []impl.Chunk{{Kind: 193, Body: whole[:size]}, {Kind: 128, Body: whole[:size]}, {Kind: 15, Body: whole[size/2 : size]}}
+		first, second := impl.ProtectChunks(9, whole, chunks), impl.ProtectChunks(9, whole, chunks)
+		wantNoShare(t, authArguments{9, whole, chunks, nil}, first, second)
+		wantProtected(t, 9, whole, chunks)
+	}
+	// What is protected twice shares no memory with what is protected once.
+	once := impl.ProtectChunks(1, whole, chunksOf(4, 5))
+	twice := impl.ProtectChunks(2, whole, once.Chunks)
+	wantNoShare(t, whole, once, twice)
+	wantPass(t, whole, twice.Chunks, 2, 1)
+	wantPass(t, whole, twice.Chunks[1:], 1, 1)
+	// The tag chunk's digest and the chunk behind it lie in the same memory.
+	digest := macElsewhere(nil, textElsewhere(5, []impl.Chunk{{Body: whole[:9]}}))
+	joined := slices.Concat([]byte{0, 5}, digest, whole[:9])
+	wantPass(t, nil, []impl.Chunk{{Kind: 15, Body: joined[:34]}, {Body: joined[34:]}}, 5, 1)
+}
