@@ -47,6 +47,11 @@ func isWord(n int64) bool {
 	return n >= 0 && n <= MaxWord
 }
 
+// wordAfter is the next serial number. The one after the last is 0.
+func wordAfter(n int64) int64 {
+	return int64(word(n) + 1)
+}
+
 // rotate turns the word right by n bits.
 func (w word) rotate(n int) word {
 	return word(bits.RotateLeft32(uint32(w), -n))

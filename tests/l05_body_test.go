@@ -566,6 +566,17 @@ func eachPair[T any](valid func() T, all []breach[T], check func(v T, code int64
 	}
 }
 
+// eachBreach makes the breaches in values that are in order, and then every two of
+// them.
+func eachBreach[T any](valid func() T, all []breach[T], check func(v T, code int64)) {
+	for _, b := range all {
+		v := valid()
+		b.make(&v)
+		check(v, b.code)
+	}
+	eachPair(valid, all, check)
+}
+
 // wantBreaches makes the breaches in values that are in order, and then every two
 // of them.
 func (k codec[T]) wantBreaches(t *testing.T, valid func() T, breaches ...[]breach[T]) {
@@ -593,29 +604,42 @@ func notFrom(from int64, to int64) []int64 {
 	return slices.DeleteFunc(list, func(n int64) bool { return n >= from && n <= to })
 }
 
+// dataBreaches make a Data faulty.
+func dataBreaches[T any](rank int, data func(v *T) *impl.Data) []breach[T] {
+	all := slices.Concat(
+		numberBreaches(rank, impl.ErrRange, func(v *T) *int64 { return &data(v).Tsn }, noWords()...),
+		numberBreaches(rank+1, impl.ErrRange, func(v *T) *int64 { return &data(v).Stream }, notFrom(0, 9)...),
+		numberBreaches(rank+2, impl.ErrRange, func(v *T) *int64 { return &data(v).Seq }, notFrom(0, 65535)...))
+	for _, piece := range append(longPieces(), nil, []byte{}) {
+		all = append(all, breach[T]{rank + 3, impl.ErrMany, func(v *T) { data(v).Piece = piece }})
+	}
+	for _, seq := range []int64{1, 2, 256, 65535} {
+		all = append(all, breach[T]{rank + 4, impl.ErrForm, func(v *T) {
+			d := data(v)
+			d.Unordered = true
+			// A Seq that is no pair is another breach, and stays.
+			if d.Seq >= 0 && d.Seq <= 65535 {
+				d.Seq = seq
+			}
+		}})
+	}
+	return all
+}
+
+// longPieces have more bytes than a piece may.
+func longPieces() [][]byte {
+	var list [][]byte
+	for _, size := range []int{101, 102, 152, 153, 256, 257, 356, 1000, 65537} {
+		list = append(list, make([]byte, size))
+	}
+	return list
+}
+
 func TestDataWithFaults(t *testing.T) {
 	valid := func() impl.Data {
 		return impl.Data{Tsn: 1, Stream: 2, First: true, Piece: []byte{3}}
 	}
-	sizes := []breach[impl.Data]{{4, impl.ErrMany, func(v *impl.Data) { v.Piece = nil }}, {4, impl.ErrMany, func(v *impl.Data) { v.Piece = []byte{} }}}
-	for _, size := range []int{101, 102, 152, 153, 256, 257, 356, 1000, 65537} {
-		sizes = append(sizes, breach[impl.Data]{4, impl.ErrMany, func(v *impl.Data) { v.Piece = make([]byte, size) }})
-	}
-	var seqs []breach[impl.Data]
-	for _, seq := range []int64{1, 2, 256, 65535} {
-		seqs = append(seqs, breach[impl.Data]{5, impl.ErrForm, func(v *impl.Data) {
-			v.Unordered = true
-			// A Seq that is no pair is another breach, and stays.
-			if v.Seq == 0 {
-				v.Seq = seq
-			}
-		}})
-	}
-	dataCodec().wantBreaches(t, valid,
-		numberBreaches(1, impl.ErrRange, func(v *impl.Data) *int64 { return &v.Tsn }, noWords()...),
-		numberBreaches(2, impl.ErrRange, func(v *impl.Data) *int64 { return &v.Stream }, notFrom(0, 9)...),
-		numberBreaches(3, impl.ErrRange, func(v *impl.Data) *int64 { return &v.Seq }, notFrom(0, 65535)...),
-		sizes, seqs)
+	dataCodec().wantBreaches(t, valid, dataBreaches(1, func(v *impl.Data) *impl.Data { return v }))
 }
 
 func TestUnorderedData(t *testing.T) {

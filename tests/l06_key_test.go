@@ -322,22 +322,17 @@ func TestOfTwoFaultsOfSecretsTheFirstCounts(t *testing.T) {
 		wantNoBytes(t, impl.KeyOf(list, 11, make([]byte, 20), make([]byte, 20)), code, "KeyOf", list)
 		wantNoSecrets(t, impl.PutSecret(list, impl.Secret{Id: 11}), code, list)
 	}
-	for _, b := range all {
-		v := valid()
-		b.make(&v)
-		check(v, b.code)
-	}
-	eachPair(valid, all, check)
+	eachBreach(valid, all, check)
 }
 
-// eachList gives all lists of so many of the secrets.
-func eachList(from []impl.Secret, count int, list []impl.Secret, give func(list []impl.Secret)) {
+// eachList gives all lists of so many of the elements.
+func eachList[T any](from []T, count int, list []T, give func(list []T)) {
 	if count == 0 {
 		give(list)
 		return
 	}
-	for _, s := range from {
-		eachList(from, count-1, append(list, s), give)
+	for _, v := range from {
+		eachList(from, count-1, append(list, v), give)
 	}
 }
 
@@ -411,12 +406,7 @@ func TestVectorsOfGreetingsWithFaults(t *testing.T) {
 		wantNoBytes(t, impl.VectorOf(g.Init), code, "VectorOf", g.Init)
 	}
 	all := initBreaches()
-	for _, b := range all {
-		v := valid()
-		b.make(&v)
-		check(v, b.code)
-	}
-	eachPair(valid, all, check)
+	eachBreach(valid, all, check)
 	wantNoBytes(t, impl.VectorOf(impl.Init{}), impl.ErrRange, "VectorOf nothing")
 }
 

@@ -451,12 +451,7 @@ func TestOfTwoFaultsOfATextTheFirstCounts(t *testing.T) {
 			wantNoBytes(t, impl.MacText(v.id, v.chunks), code, "MacText", v.id, v.chunks)
 		}
 	}
-	for _, b := range all {
-		v := valid()
-		b.make(&v)
-		check(v, b.code)
-	}
-	eachPair(valid, all, check)
+	eachBreach(valid, all, check)
 }
 
 // faultyChunks are chunks with one fault or two, with the code that counts.
@@ -894,23 +889,7 @@ func TestOfTwoFaultsOfACheckTheFirstCounts(t *testing.T) {
 		wantFail(t, v.key, v.chunks, code)
 		wantCheckAsElsewhere(t, v.key, v.chunks)
 	}
-	for _, b := range all {
-		v := valid()
-		b.make(&v)
-		check(v, b.code)
-	}
-	eachPair(valid, all, check)
-}
-
-// eachChunkList gives all lists of so many of the chunks.
-func eachChunkList(from []impl.Chunk, count int, list []impl.Chunk, give func(list []impl.Chunk)) {
-	if count == 0 {
-		give(list)
-		return
-	}
-	for _, c := range from {
-		eachChunkList(from, count-1, append(list, c), give)
-	}
+	eachBreach(valid, all, check)
 }
 
 func TestChecksOfAllSmallLists(t *testing.T) {
@@ -919,9 +898,9 @@ func TestChecksOfAllSmallLists(t *testing.T) {
 	from := []impl.Chunk{a, b, tag(), tag(a), tag(b), tag(a, b), tag(b, a), tag(tag(a), a), {Kind: 15, Flags: 1}, {Kind: 256}, {Body: make([]byte, 161)}}
 	found := map[int64]int{}
 	for count := range 5 {
-		eachChunkList(from, count, nil, func(list []impl.Chunk) { found[wantCheckAsElsewhere(t, key, list)]++ })
+		eachList(from, count, nil, func(list []impl.Chunk) { found[wantCheckAsElsewhere(t, key, list)]++ })
 	}
-	eachChunkList([]impl.Chunk{b, tag(), tag(b, b, b)}, 5, nil, func(list []impl.Chunk) { found[wantCheckAsElsewhere(t, key, list)]++ })
+	eachList([]impl.Chunk{b, tag(), tag(b, b, b)}, 5, nil, func(list []impl.Chunk) { found[wantCheckAsElsewhere(t, key, list)]++ })
 	for _, code := range []int64{impl.OK, impl.ErrMany, impl.ErrRange, impl.ErrNone, impl.ErrText, impl.ErrAuth} {
 		if found[code] < 10 {
 			t.Errorf("only %d lists have the code %d", found[code], code)

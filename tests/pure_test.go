@@ -494,6 +494,71 @@ func wantNoShare(t *testing.T, arguments any, first any, second any) {
 	}
 }
 
+// roomyValue copies a value so that all lists in it have spare capacity. It sets the
+// fields of structs, so they must be exported.
+func roomyValue(v reflect.Value) reflect.Value {
+	own := reflect.New(v.Type()).Elem()
+	own.Set(v)
+	switch v.Kind() {
+	case reflect.Slice:
+		if v.Len() == 0 {
+			return own
+		}
+		list := reflect.MakeSlice(v.Type(), 0, 2*v.Len()+3)
+		for i := range list.Cap() {
+			list = reflect.Append(list, roomyValue(v.Index(i%v.Len())))
+		}
+		own.Set(list.Slice(0, v.Len()))
+	case reflect.Struct:
+		for i := range v.NumField() {
+			own.Field(i).Set(roomyValue(v.Field(i)))
+		}
+	}
+	return own
+}
+
+// wholeValue is a copy of a value in which all lists reach to their capacity.
+func wholeValue(v reflect.Value) reflect.Value {
+	own := reflect.New(v.Type()).Elem()
+	own.Set(v)
+	switch v.Kind() {
+	case reflect.Slice:
+		list := reflect.MakeSlice(v.Type(), 0, v.Cap())
+		for i := range v.Cap() {
+			list = reflect.Append(list, wholeValue(v.Slice(0, v.Cap()).Index(i)))
+		}
+		own.Set(list)
+	case reflect.Struct:
+		for i := range v.NumField() {
+			own.Field(i).Set(wholeValue(v.Field(i)))
+		}
+	}
+	return own
+}
+
+// wantPure makes the calls with all arguments, and then with copies of them in the
+// opposite order. It wants the same results, in new memory, and the arguments as they
+// were.
+func wantPure[A any, R any](t *testing.T, all []A, calls func(a A) R) {
+	t.Helper()
+	var first []string
+	for _, a := range all {
+		first = append(first, told(calls(a)))
+	}
+	for i, a := range slices.Backward(all) {
+		own := roomyValue(reflect.ValueOf(a)).Interface().(A)
+		before := told(wholeValue(reflect.ValueOf(own)).Interface())
+		one, two := calls(own), calls(own)
+		if told(one) != first[i] || told(two) != first[i] {
+			t.Errorf("first %s, then %+v and %+v", first[i], one, two)
+		}
+		if after := told(wholeValue(reflect.ValueOf(own)).Interface()); after != before {
+			t.Errorf("the arguments %s are changed to %s", before, after)
+		}
+		wantNoShare(t, own, one, two)
+	}
+}
+
 // contents are arguments of all functions of chapter 5.
 type contents struct {
 	data   impl.Data
@@ -962,4 +1027,114 @@ func TestAuthOfArgumentsThatShareMemory(t *testing.T) {
 	digest := macElsewhere(nil, textElsewhere(5, []impl.Chunk{{Body: whole[:9]}}))
 	joined := slices.Concat([]byte{0, 5}, digest, whole[:9])
 	wantPass(t, nil, []impl.Chunk{{Kind: 15, Body: joined[:34]}, {Body: joined[34:]}}, 5, 1)
+}
+
+// pieceArguments are arguments of all functions of chapter 8.
+type pieceArguments struct {
+	Message       impl.Message
+	Size          int64
+	Tsn           int64
+	Seq           int64
+	List          []impl.Data
+	OtherList     []impl.Data
+	Messages      []impl.Message
+	OtherMessages []impl.Message
+}
+
+// pieceResults are the results of all functions of chapter 8.
+type pieceResults struct {
+	fault        int64
+	cut          impl.DatasResult
+	joined       impl.MessageResult
+	sameMessages bool
+	sameDatas    bool
+}
+
+func pieceCalls(a pieceArguments) pieceResults {
+	return pieceResults{
+		impl.MessageFault(a.Message), impl.CutMessage(a.Message, a.Size, a.Tsn, a.Seq), impl.JoinPieces(a.List),
+		impl.SameMessages(a.Messages, a.OtherMessages), impl.SameDatas(a.List, a.OtherList),
+	}
+}
+
+// somePieceArguments include ones with a fault.
+func somePieceArguments() []pieceArguments {
+	var all []pieceArguments
+	messages := append(someMessages(), impl.Message{}, messageOf(10, 9), messageOf(3, 401))
+	for i, m := range messages {
+		others := []impl.Message{m, messages[(i+1)%len(messages)]}
+		for _, size := range []int64{3, 4, 33, 100, 101} {
+			a := pieceArguments{Message: m, Size: size, Tsn: impl.MaxWord - 2, Messages: others, OtherMessages: slices.Clone(others)}
+			a.List = piecesOfSizes(int64(i), slices.Repeat([]int{i%9 + 1}, int(size))...)
+			a.OtherList = copiedDatas(a.List)
+			all = append(all, a)
+			a.Seq, a.List, a.OtherMessages = size, append(a.List[1:], a.List[0]), nil
+			all = append(all, a)
+			a.List, a.Tsn = anyDatas(), -1
+			all = append(all, a)
+			a.List = piecesOfSizes(int64(i), i*3+1)
+			all = append(all, a)
+		}
+	}
+	return append(all, pieceArguments{})
+}
+
+func TestPiecesReturnForAllArguments(t *testing.T) {
+	numbers := append(anyNumbers(), badBytes()...)
+	for i, n := range numbers {
+		m := numbers[(i*7+3)%len(numbers)]
+		for _, size := range []int{0, 1, 4, 100, 101, 400, 401, 1000} {
+			data := make([]byte, size)
+			for _, loose := range []bool{false, true} {
+				message := impl.Message{Stream: n, Unordered: loose, Bytes: data}
+				list := slices.Repeat([]impl.Data{{Tsn: n, Stream: m, Seq: n, First: loose, Unordered: loose, Piece: data}, {Tsn: m, Last: true}}, size)
+				pieceCalls(pieceArguments{message, n, m, n, list, list, []impl.Message{message}, []impl.Message{message}})
+				message.Stream = 3
+				for _, k := range numbers {
+					pieceCalls(pieceArguments{Message: message, Size: k, List: list[:min(1, size)]})
+					pieceCalls(pieceArguments{Message: message, Size: 4, Tsn: n, Seq: k, List: []impl.Data{{Tsn: k, Stream: 1, Piece: data}}})
+				}
+			}
+		}
+	}
+	pieceCalls(pieceArguments{})
+	pieceCalls(pieceArguments{Message: impl.Message{Bytes: []byte{}}, List: []impl.Data{}, Messages: []impl.Message{}})
+}
+
+func TestPiecesAreThoseOfTheArgumentsOnly(t *testing.T) {
+	wantPure(t, somePieceArguments(), pieceCalls)
+}
+
+func TestWhatLiesBehindAPieceIsNotTheNextOne(t *testing.T) {
+	m := messageOf(2, 30)
+	for place := range 8 {
+		list := impl.CutMessage(m, 4, 5, 6).Datas
+		piece := list[place].Piece
+		for _, b := range [][]byte{piece[:cap(piece)], append(piece, someData(200, 94)...)} {
+			for i := range b {
+				b[i] ^= 255
+			}
+		}
+		for other, d := range cutElsewhere(cutCase{m, 4, 5, 6}) {
+			if other != place && !bytes.Equal(list[other].Piece, d.Piece) {
+				t.Errorf("piece %d shares memory with piece %d", other, place)
+			}
+		}
+	}
+}
+
+func TestPiecesOfArgumentsThatShareMemory(t *testing.T) {
+	whole := someData(100, 95)
+	// All pieces lie in the same memory, and the message has them one by one.
+	for size := 1; size <= 100; size++ {
+		list := piecesOfSizes(7, 1, 1, 1, 1)
+		for i := range list {
+			list[i].Piece = whole[:size]
+		}
+		first, second := impl.JoinPieces(list), impl.JoinPieces(list)
+		wantNoShare(t, list, first, second)
+		wantJoined(t, list, impl.Message{Stream: 6, Bytes: bytes.Repeat(bytes.Clone(whole[:size]), 4)})
+	}
+	list := impl.CutMessage(impl.Message{Bytes: whole}, 40, 1, 2).Datas
+	wantNoShare(t, whole, list, impl.JoinPieces(list))
 }
