@@ -118,6 +118,7 @@ func TestHmacsOfNothing(t *testing.T) {
 }
 
 func TestHmacsOfAllSizes(t *testing.T) {
+	t.Parallel()
 	for size := range impl.MaxKey + 1 {
 		for _, key := range someKeys(size) {
 			for _, count := range dataSizes() {
@@ -207,6 +208,7 @@ func TestAKeyThatIsReplacedByItsDigest(t *testing.T) {
 }
 
 func TestEveryByteOfKeyAndDataCounts(t *testing.T) {
+	t.Parallel()
 	for _, size := range keySizes() {
 		for _, count := range dataSizes() {
 			key, data := someData(size, 29), someData(count, 30)
@@ -372,6 +374,7 @@ func TestSumsOfAllSizes(t *testing.T) {
 }
 
 func TestChangingOneByteChangesTheSum(t *testing.T) {
+	t.Parallel()
 	changes := []byte{1, 2, 4, 8, 16, 32, 64, 128, 3, 24, 129, 54, 92, 127, 254, 255}
 	for _, size := range []int{1, 2, 4, 5, 9, 64, 500, 699, 700} {
 		for _, data := range [][]byte{make([]byte, size), someData(size, 36)} {

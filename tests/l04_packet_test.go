@@ -361,6 +361,7 @@ func TestTheChecksumIsTakenWithZeroBytesInItsPlace(t *testing.T) {
 }
 
 func TestTheChangeOfOneByteIsDetected(t *testing.T) {
+	t.Parallel()
 	for _, p := range append(largestPackets(), packetOf(0, 0), packetOf(7, 1, 2, 3), packetOf(9, 0, 0, 0, 0, 0, 0, 0, 0)) {
 		data := packetElsewhere(p)
 		for place := range data {

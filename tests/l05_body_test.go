@@ -897,6 +897,7 @@ func (k codec[T]) wantAllVariants(t *testing.T, list ...T) {
 }
 
 func TestVariantsOfChunks(t *testing.T) {
+	t.Parallel()
 	random := someData(16, 64)
 	dataCodec().wantAllVariants(t,
 		impl.Data{Tsn: 258, Stream: 3, Seq: 4, First: true, Piece: []byte{9}},
@@ -923,6 +924,7 @@ func TestVariantsOfChunks(t *testing.T) {
 }
 
 func TestCountsThatDoNotMatch(t *testing.T) {
+	t.Parallel()
 	word := []byte{0, 0, 0, 9}
 	for count := range 256 {
 		for behind := range 60 {
@@ -1085,6 +1087,7 @@ func (k codec[T]) wantShuffled(t *testing.T, list []T) {
 }
 
 func TestReadingWhateverIsNearAChunk(t *testing.T) {
+	t.Parallel()
 	dataCodec().wantShuffled(t, someDatas())
 	sackCodec().wantShuffled(t, someSacks())
 	initCodec().wantShuffled(t, someInits())

@@ -321,6 +321,7 @@ func TestTheExampleOfProtection(t *testing.T) {
 }
 
 func TestProtectedChunksPassTheCheck(t *testing.T) {
+	t.Parallel()
 	for i, chunks := range someChunkLists() {
 		for j, key := range authKeys() {
 			for _, id := range []int64{0, 1, 98, 99, int64(i*9+j) % 100} {
@@ -578,6 +579,7 @@ func TestADigestThatIsChanged(t *testing.T) {
 }
 
 func TestAnIdThatIsChanged(t *testing.T) {
+	t.Parallel()
 	key := []byte("key")
 	for _, chunks := range [][]impl.Chunk{nil, chunksOf(7), largestTexts()[4]} {
 		for _, id := range []int64{0, 1, 8, 50, 98, 99} {
@@ -656,6 +658,7 @@ func changedLists(chunks []impl.Chunk) [][]impl.Chunk {
 }
 
 func TestEveryChunkBehindTheTagChunkCounts(t *testing.T) {
+	t.Parallel()
 	key := []byte("key")
 	for _, chunks := range someChunkLists() {
 		tag := protectElsewhere(8, key, chunks)[0]

@@ -218,6 +218,7 @@ func TestKnownCuts(t *testing.T) {
 }
 
 func TestCutMessagesAreJoinedAgain(t *testing.T) {
+	t.Parallel()
 	words := someWords()
 	for length := 1; length <= impl.MaxMessage; length++ {
 		for size := int64(impl.MinPiece); size <= impl.MaxPiece; size++ {
@@ -270,6 +271,7 @@ func TestTsnsOfPieces(t *testing.T) {
 }
 
 func TestSeqsAndStreamsOfPieces(t *testing.T) {
+	t.Parallel()
 	for _, seq := range []int64{0, 1, 2, 127, 128, 255, 256, 258, 32767, 32768, 65534, 65535} {
 		for stream := range int64(10) {
 			for _, length := range []int{1, 4, 5, 12, 400} {
@@ -625,6 +627,7 @@ func anyDatas() []impl.Data {
 }
 
 func TestComparingPieces(t *testing.T) {
+	t.Parallel()
 	wantSameDatas(t, nil, nil, true)
 	wantSameDatas(t, nil, []impl.Data{}, true)
 	for _, d := range anyDatas() {

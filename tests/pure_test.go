@@ -324,6 +324,7 @@ func (r packetResults) spoil() {
 }
 
 func TestPacketsReturnForAllArguments(t *testing.T) {
+	t.Parallel()
 	numbers := append(anyNumbers(), badBytes()...)
 	for _, kind := range numbers {
 		for _, flags := range numbers {
@@ -683,6 +684,7 @@ func TestContentsDependOnTheArgumentsOnly(t *testing.T) {
 }
 
 func TestContentsLeaveTheirArguments(t *testing.T) {
+	t.Parallel()
 	for _, a := range someContents() {
 		own := roomyContents(a)
 		before := own.extended()
@@ -842,6 +844,7 @@ func TestKeysDependOnTheArgumentsOnly(t *testing.T) {
 }
 
 func TestKeysLeaveTheirArguments(t *testing.T) {
+	t.Parallel()
 	for _, k := range someKeyArguments() {
 		own := roomyKeyArguments(k)
 		before := own.extended()
@@ -991,6 +994,7 @@ func TestAuthDependsOnTheArgumentsOnly(t *testing.T) {
 }
 
 func TestAuthLeavesItsArguments(t *testing.T) {
+	t.Parallel()
 	for _, a := range someAuthArguments() {
 		own := roomyAuthArguments(a)
 		before := own.extended()
@@ -1102,6 +1106,7 @@ func TestPiecesReturnForAllArguments(t *testing.T) {
 }
 
 func TestPiecesAreThoseOfTheArgumentsOnly(t *testing.T) {
+	t.Parallel()
 	wantPure(t, somePieceArguments(), pieceCalls)
 }
 
@@ -1137,4 +1142,137 @@ func TestPiecesOfArgumentsThatShareMemory(t *testing.T) {
 	}
 	list := impl.CutMessage(impl.Message{Bytes: whole}, 40, 1, 2).Datas
 	wantNoShare(t, whole, list, impl.JoinPieces(list))
+}
+
+// recvArguments are arguments of all functions of chapter 9.
+type recvArguments struct {
+	Cum       int64
+	Recv      impl.Recv
+	OtherRecv impl.Recv
+	Data      impl.Data
+}
+
+// recvResults are the results of all functions of chapter 9.
+type recvResults struct {
+	fault int64
+	fresh impl.RecvResult
+	taken impl.RecvResult
+	sack  impl.SackResult
+	same  bool
+}
+
+func recvCalls(a recvArguments) recvResults {
+	return recvResults{
+		impl.RecvFault(a.Recv), impl.NewRecv(a.Cum), impl.TakeData(a.Recv, a.Data), impl.SackOf(a.Recv), impl.SameRecvs(a.Recv, a.OtherRecv),
+	}
+}
+
+// someRecvArguments include ones with a fault.
+func someRecvArguments() []recvArguments {
+	var all []recvArguments
+	for i, cum := range someWords() {
+		full := newRecv(cum)
+		full.Pieces = behind(cum, 64)
+		done := newRecv(cum)
+		done.Pieces = []impl.Data{wholePiece(stepsFrom(cum, -1), 1), wholePiece(cum, 0), wholePiece(stepsFrom(cum, 2), 2)}
+		done.Beyond = stepsOf(cum, 2, 3, 5)
+		for _, r := range []impl.Recv{newRecv(cum), waiting(cum, 2, 3, 9, 16), waiting(cum, 2), full, done, validRecv(), {Cum: cum}} {
+			a := recvArguments{Cum: cum, Recv: r, OtherRecv: copiedRecv(r)}
+			for _, distance := range []int64{1, 2, 3, 16, 0, 17, half, int64(i)} {
+				for _, d := range []impl.Data{wholePiece(stepsFrom(r.Cum, distance), 0), loosePiece(stepsFrom(r.Cum, distance)), middlePiece(stepsFrom(r.Cum, distance))} {
+					a.Data = d
+					all = append(all, a)
+				}
+			}
+			a.Cum, a.OtherRecv, a.Data.Stream = -1, impl.Recv{}, 10
+			all = append(all, a)
+			a.Recv = copiedRecv(r)
+			a.Recv.Pieces = append(a.Recv.Pieces, impl.Data{Tsn: -1, Piece: []byte{1}})
+			all = append(all, a)
+		}
+	}
+	return append(all, recvArguments{})
+}
+
+func TestReceiversReturnForAllArguments(t *testing.T) {
+	numbers := append(anyNumbers(), badBytes()...)
+	for i, n := range numbers {
+		for j, m := range numbers {
+			d := impl.Data{Tsn: m, Stream: n, Seq: m, First: i%2 == 0, Last: j%2 == 0, Unordered: i%3 == 0, Piece: make([]byte, i)}
+			e := d
+			e.Stream, e.Seq, e.Piece = int64(i%10), 0, []byte{1}
+			for _, count := range []int{0, 1, 2, 10, 17, 65} {
+				r := impl.Recv{Cum: n, Beyond: slices.Repeat([]int64{m}, count), Pieces: slices.Repeat([]impl.Data{d, e}, count), Next: slices.Repeat([]int64{m}, count)}
+				recvCalls(recvArguments{n, r, r, d})
+				r.Next = make([]int64, 10)
+				recvCalls(recvArguments{m, r, r, e})
+				r.Beyond = nil
+				recvCalls(recvArguments{m, r, r, e})
+				r.Pieces = r.Pieces[:min(1, count)]
+				recvCalls(recvArguments{m, r, impl.Recv{}, e})
+			}
+		}
+	}
+	recvCalls(recvArguments{})
+	recvCalls(recvArguments{Recv: impl.Recv{Beyond: []int64{}, Pieces: []impl.Data{}, Next: []int64{}}})
+}
+
+func TestReceiversDependOnTheArgumentsOnly(t *testing.T) {
+	t.Parallel()
+	wantPure(t, someRecvArguments(), recvCalls)
+}
+
+func TestReceiversOfArgumentsThatShareMemory(t *testing.T) {
+	whole := someData(9, 96)
+	for size := 1; size <= 9; size++ {
+		// The pieces that wait, the one that arrives and the messages have the same bytes.
+		r := waiting(6, 2, 3, 4)
+		for i := range r.Pieces {
+			r.Pieces[i].Piece = whole[:size]
+			r.Pieces[i].First, r.Pieces[i].Last, r.Pieces[i].Unordered, r.Pieces[i].Seq = i < 2, i < 2, i < 2, 0
+		}
+		d := loosePiece(7)
+		d.Piece = whole[:size]
+		want := takeElsewhere(copiedRecv(r), d)
+		first, second := impl.TakeData(r, d), impl.TakeData(r, d)
+		wantNoShare(t, recvArguments{Recv: r, Data: d}, first, second)
+		if len(want.Messages) != 3 || len(want.Recv.Pieces) != 1 || !equalTakes(first, want) {
+			t.Errorf("TakeData(%+v, %+v) = %+v, want %+v", r, d, first, want)
+		}
+	}
+	// Beyond and Next lie in the same memory.
+	numbers := []int64{3, 4, 6, 8, 9, 10, 12, 13, 15, 16}
+	for count := range numbers {
+		r := impl.Recv{Beyond: numbers[:count], Next: numbers}
+		for _, d := range []impl.Data{loosePiece(1), loosePiece(2), {Tsn: 5, Stream: 4, Seq: 9, First: true, Last: true, Piece: whole}} {
+			want := takeElsewhere(copiedRecv(r), d)
+			got := impl.TakeData(r, d)
+			wantNoShare(t, recvArguments{Recv: r, Data: d}, got, impl.SackOf(r))
+			if want.Code != impl.OK || !equalTakes(got, want) {
+				t.Errorf("TakeData(%+v, %+v) = %+v, want %+v", r, d, got, want)
+			}
+		}
+	}
+}
+
+func TestAReceiverStaysAsItWas(t *testing.T) {
+	// A receiver is used after others were made of it.
+	r := waiting(impl.MaxWord-3, 2, 3, 4, 6)
+	before := copiedRecv(r)
+	var later []impl.Recv
+	for distance := int64(1); distance <= 16; distance++ {
+		later = append(later, impl.TakeData(r, loosePiece(stepsFrom(r.Cum, distance))).Recv)
+	}
+	for _, own := range later {
+		for _, list := range [][]int64{own.Beyond[:cap(own.Beyond)], own.Next[:cap(own.Next)]} {
+			clear(list)
+		}
+		for _, d := range own.Pieces[:cap(own.Pieces)] {
+			clear(d.Piece[:cap(d.Piece)])
+		}
+		clear(own.Pieces[:cap(own.Pieces)])
+	}
+	if !equalRecvs(r, before) {
+		t.Errorf("the receiver %+v is changed to %+v", before, r)
+	}
 }
