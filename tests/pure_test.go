@@ -1276,3 +1276,144 @@ func TestAReceiverStaysAsItWas(t *testing.T) {
 		t.Errorf("the receiver %+v is changed to %+v", before, r)
 	}
 }
+
+// sendArguments are arguments of all functions of chapter 10.
+type sendArguments struct {
+	Tsn       int64
+	Send      impl.Send
+	OtherSend impl.Send
+	Message   impl.Message
+	Size      int64
+	Now       int64
+	Rto       int64
+	Most      int64
+	Sack      impl.Sack
+}
+
+// sendResults are the results of all functions of chapter 10.
+type sendResults struct {
+	fault   int64
+	fresh   impl.SendResult
+	pushed  impl.SendResult
+	emitted impl.SendResult
+	acked   impl.SendResult
+	left    impl.IntResult
+	same    bool
+}
+
+func sendCalls(a sendArguments) sendResults {
+	return sendResults{
+		impl.SendFault(a.Send), impl.NewSend(a.Tsn), impl.PushMessage(a.Send, a.Message, a.Size), impl.EmitDatas(a.Send, a.Now, a.Rto, a.Most),
+		impl.TakeSack(a.Send, a.Sack), impl.LeftIn(a.Send), impl.SameSends(a.Send, a.OtherSend),
+	}
+}
+
+// someSendArguments include ones with a fault.
+func someSendArguments() []sendArguments {
+	var all []sendArguments
+	for i, acked := range someWords() {
+		waiting := spreadSend(acked, 30, 1, 2, 5, 16, 17, 29)
+		waiting.Items[1].Sent, waiting.Items[1].Due = 1, 500
+		for _, s := range []impl.Send{newSend(stepsFrom(acked, 1)), waiting, spreadSend(acked, 41, oneTo(40)...), spreadSend(acked, 1000, 4, 999), validSend(), {Next: acked}} {
+			a := sendArguments{Tsn: acked, Send: s, OtherSend: copiedSend(s), Message: messageOf(int64(i%10), 1+i*16), Size: int64(4 + i), Now: int64(i * 30), Rto: 300, Most: int64(i * 2 % 41)}
+			for _, distance := range []int64{0, 1, 3, 28, -1, half} {
+				for _, gaps := range [][]impl.Gap{nil, {{From: 2, To: 2}}, {{From: 2, To: 3}, {From: 15, To: 16}}} {
+					a.Sack = impl.Sack{Cum: stepsFrom(s.Acked, distance), Gaps: gaps}
+					a.Message.Unordered = distance%2 == 0
+					all = append(all, a)
+				}
+			}
+			a.Tsn, a.OtherSend, a.Message.Stream, a.Size, a.Rto, a.Sack.Cum = -1, impl.Send{}, 10, 3, 0, -1
+			all = append(all, a)
+			a.Send = copiedSend(s)
+			a.Send.Items = append(a.Send.Items, impl.SendItem{Data: impl.Data{Piece: []byte{1}}, Due: -1})
+			all = append(all, a)
+		}
+	}
+	return append(all, sendArguments{})
+}
+
+func TestSendersReturnForAllArguments(t *testing.T) {
+	t.Parallel()
+	numbers := append(anyNumbers(), badBytes()...)
+	for i, n := range numbers {
+		for j, m := range numbers {
+			d := impl.Data{Tsn: m, Stream: n, Seq: m, First: i%2 == 0, Last: j%2 == 0, Unordered: i%3 == 0, Piece: make([]byte, i)}
+			k := impl.Sack{Cum: m, Gaps: []impl.Gap{{From: 2, To: 65535}, {From: n, To: m}}}
+			a := sendArguments{Tsn: n, Message: impl.Message{Stream: m, Unordered: j%2 == 0, Bytes: make([]byte, j)}, Size: n, Now: m, Rto: n, Most: m, Sack: k}
+			for _, count := range []int{0, 1, 2, 10, 41} {
+				a.Send = impl.Send{Next: n, Acked: m, Seqs: slices.Repeat([]int64{m}, count), Items: slices.Repeat([]impl.SendItem{{Data: d, Sent: n, Due: m}}, count)}
+				sendCalls(a)
+				a.OtherSend = a.Send
+				a.Send.Seqs = make([]int64, 10)
+				sendCalls(a)
+				// This sender is in order, and the other arguments are as they are.
+				a.Send = validSend()
+				sendCalls(a)
+				a.Sack.Gaps = a.Sack.Gaps[:min(count, 1)]
+				a.Message.Stream, a.Size = int64(i%10), 4
+				sendCalls(a)
+			}
+		}
+	}
+	sendCalls(sendArguments{})
+	sendCalls(sendArguments{Send: impl.Send{Seqs: []int64{}, Items: []impl.SendItem{}}, Message: impl.Message{Bytes: []byte{}}, Sack: impl.Sack{Gaps: []impl.Gap{}}})
+}
+
+func TestSendersDependOnTheArgumentsOnly(t *testing.T) {
+	t.Parallel()
+	wantPure(t, someSendArguments(), sendCalls)
+}
+
+func TestSendersOfArgumentsThatShareMemory(t *testing.T) {
+	whole := someData(90, 97)
+	for size := 1; size <= 90; size++ {
+		// The items and the message have the same bytes.
+		s := spreadSend(impl.MaxWord-3, 12, 1, 2, 5, 11)
+		for i := range s.Items {
+			s.Items[i].Data.Piece = whole[:size]
+		}
+		a := sendArguments{Send: s, Message: impl.Message{Stream: 2, Bytes: whole[:size]}, Size: 10, Now: 5, Rto: 6, Most: 3, Sack: impl.Sack{Cum: impl.MaxWord - 1, Gaps: []impl.Gap{{From: 3, To: 3}}}}
+		wantPushed(t, s, a.Message, a.Size, pushElsewhere(copiedSend(s), a.Message, a.Size))
+		wantEmitted(t, s, a.Now, a.Rto, a.Most, emitElsewhere(copiedSend(s), a.Now, a.Rto, a.Most))
+		wantAcked(t, s, a.Sack, ackElsewhere(copiedSend(s), a.Sack))
+		wantNoShare(t, a, sendCalls(a), sendCalls(a))
+	}
+	// Two senders have the same lists, but not the same Acked.
+	s := spreadSend(20, 9, 2, 3)
+	other := s
+	other.Acked = 19
+	first, second := impl.EmitDatas(s, 0, 100, 40), impl.EmitDatas(other, 50, 100, 40)
+	if first.Send.Items[0].Due != 100 || second.Send.Items[0].Due != 150 || s.Items[0].Due != 0 {
+		t.Errorf("%+v and %+v are sent from %+v", first, second, s)
+	}
+	wantNoShare(t, s, first, second)
+}
+
+func TestASenderStaysAsItWas(t *testing.T) {
+	// A sender is used after others were made of it.
+	s := validSend()
+	before := copiedSend(s)
+	m := messageOf(3, 50)
+	later := []impl.SendResult{
+		impl.PushMessage(s, m, 7), impl.EmitDatas(s, 900, 300, 40), impl.TakeSack(s, impl.Sack{Cum: s.Acked}),
+		impl.TakeSack(s, impl.Sack{Cum: 3, Gaps: []impl.Gap{{From: 3, To: 9}}}), impl.TakeSack(s, impl.Sack{Cum: stepsFrom(s.Acked, -1)}),
+	}
+	for _, got := range later {
+		if got.Code != impl.OK {
+			t.Errorf("the code is %d", got.Code)
+		}
+		clear(got.Send.Seqs[:cap(got.Send.Seqs)])
+		for _, item := range got.Send.Items[:cap(got.Send.Items)] {
+			clear(item.Data.Piece[:cap(item.Data.Piece)])
+		}
+		clear(got.Send.Items[:cap(got.Send.Items)])
+		for _, d := range got.Datas[:cap(got.Datas)] {
+			clear(d.Piece[:cap(d.Piece)])
+		}
+		clear(got.Datas[:cap(got.Datas)])
+	}
+	if !equalSends(s, before) || !equalMessages(m, messageOf(3, 50)) {
+		t.Errorf("the sender %+v is changed to %+v, or the message to %+v", before, s, m)
+	}
+}
