@@ -688,8 +688,8 @@ func TestArrivingInSomeOrders(t *testing.T) {
 	}
 }
 
-// eachOrder gives all orders of the numbers from some place on.
-func eachOrder(list []int, place int, give func(list []int)) {
+// eachOrder gives all orders of the elements from some place on.
+func eachOrder[T any](list []T, place int, give func(list []T)) {
 	if place == len(list) {
 		give(list)
 		return

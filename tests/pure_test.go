@@ -3,6 +3,7 @@ package tests
 import (
 	"bytes"
 	"math"
+	"math/rand"
 	"reflect"
 	"slices"
 	"testing"
@@ -1415,5 +1416,156 @@ func TestASenderStaysAsItWas(t *testing.T) {
 	}
 	if !equalSends(s, before) || !equalMessages(m, messageOf(3, 50)) {
 		t.Errorf("the sender %+v is changed to %+v, or the message to %+v", before, s, m)
+	}
+}
+
+// pathArguments are arguments of all functions of chapter 11.
+type pathArguments struct {
+	Addrs      []int64
+	Paths      impl.Paths
+	OtherPaths impl.Paths
+	Addr       int64
+	Good       bool
+	Op         impl.AddrOp
+	Ops        []impl.AddrOp
+}
+
+// pathResults are the results of all functions of chapter 11.
+type pathResults struct {
+	fault   int64
+	fresh   impl.PathsResult
+	picked  impl.IntResult
+	noted   impl.PathsResult
+	applied impl.PathsResult
+	folded  impl.PathsResult
+	addrs   impl.IntsResult
+	same    bool
+}
+
+func pathCalls(a pathArguments) pathResults {
+	return pathResults{
+		impl.PathsFault(a.Paths), impl.NewPaths(a.Addrs), impl.PickPath(a.Paths), impl.NotePath(a.Paths, a.Addr, a.Good),
+		impl.ApplyOp(a.Paths, a.Op), impl.FoldOps(a.Paths, a.Ops), impl.AddrsOf(a.Paths), impl.SamePaths(a.Paths, a.OtherPaths),
+	}
+}
+
+// somePathArguments include ones with a fault.
+func somePathArguments() []pathArguments {
+	var all []pathArguments
+	seed := rand.New(rand.NewSource(7))
+	for i, p := range append(somePaths(), validPaths(), impl.Paths{First: 3}) {
+		a := pathArguments{Paths: p, OtherPaths: copiedPaths(p), Good: i%2 == 0, Addrs: addrsElsewhere(p)}
+		for _, addr := range append(addrsElsewhere(p), 77, 0) {
+			for kind := range int64(4) {
+				a.Addr, a.Op, a.Ops = addr, impl.AddrOp{Kind: kind, Addr: addr}, someOps(seed, seed.Intn(8))
+				all = append(all, a)
+				a.Ops = append(a.Ops, opDel(p.First), opAdd(addr), opFirst(addr), opDel(p.First), opDel(addr))
+				a.Good = !a.Good
+				all = append(all, a)
+			}
+		}
+		a.Addrs, a.Ops, a.OtherPaths.First = append(a.Addrs, 5, 5), slices.Repeat([]impl.AddrOp{opAdd(9)}, 40+i%2), 0
+		all = append(all, a)
+		a.Paths.First = 256
+		all = append(all, a)
+	}
+	return append(all, pathArguments{})
+}
+
+func TestPathsReturnForAllArguments(t *testing.T) {
+	t.Parallel()
+	numbers := append(anyNumbers(), badBytes()...)
+	for i, n := range numbers {
+		for j, m := range numbers {
+			path := impl.Path{Addr: n, Errors: m, Rto: n, Down: i%2 == 0}
+			a := pathArguments{Addr: n, Good: j%2 == 0, Op: impl.AddrOp{Kind: m, Addr: n}, Ops: []impl.AddrOp{{Kind: n, Addr: m}, {Kind: 1, Addr: n}, {Kind: 2, Addr: m}, {Kind: 3, Addr: n}}}
+			for _, count := range []int{0, 1, 2, 5, 6} {
+				a.Paths = impl.Paths{List: slices.Repeat([]impl.Path{path}, count), First: m}
+				a.OtherPaths = a.Paths
+				a.Addrs = slices.Repeat([]int64{n, m}, count)
+				pathCalls(a)
+				// Only one field is what it is.
+				for k, own := range []impl.Path{{Addr: n, Rto: 100}, {Addr: 7, Errors: n, Rto: 100}, {Addr: 7, Rto: n}} {
+					a.Paths = newPaths([]int64{1, 2, 3, 4, 5}[:max(1, min(count, 5))]...)
+					a.Paths.List[len(a.Paths.List)-1] = own
+					a.Paths.First = []int64{1, n, m}[k]
+					pathCalls(a)
+				}
+				// These paths are in order, and the other arguments are as they are.
+				a.Paths = validPaths()
+				pathCalls(a)
+				a.Op.Kind = int64(1 + count%3)
+				a.Ops = slices.Repeat(a.Ops, 1+count*2)
+				pathCalls(a)
+			}
+		}
+	}
+	pathCalls(pathArguments{})
+	pathCalls(pathArguments{Addrs: []int64{}, Paths: impl.Paths{List: []impl.Path{}}, Ops: []impl.AddrOp{}})
+	for count := range 100 {
+		pathCalls(pathArguments{Addrs: make([]int64, count), Paths: impl.Paths{List: make([]impl.Path, count)}, Ops: make([]impl.AddrOp, count)})
+		pathCalls(pathArguments{Paths: validPaths(), Ops: make([]impl.AddrOp, count)})
+	}
+}
+
+func TestPathsDependOnTheArgumentsOnly(t *testing.T) {
+	t.Parallel()
+	wantPure(t, somePathArguments(), pathCalls)
+}
+
+func TestPathsOfArgumentsThatShareMemory(t *testing.T) {
+	whole := newPaths(1, 2, 3, 4, 5)
+	ops := []impl.AddrOp{opDel(1), opAdd(9), opFirst(2), opDel(1), opAdd(9), opDel(9)}
+	for from := range 5 {
+		for to := from + 1; to <= 5; to++ {
+			// There are more paths behind the list, where one could be added, and the other
+			// paths begin within it.
+			p := impl.Paths{List: whole.List[from:to], First: int64(from + 1)}
+			a := pathArguments{Addrs: oneTo(5)[from:to], Paths: p, OtherPaths: impl.Paths{List: whole.List[from:], First: p.First}, Addr: int64(to), Op: opAdd(9), Ops: ops[from:]}
+			one, two := pathCalls(a), pathCalls(a)
+			wantFolded(t, p, a.Ops, foldElsewhere(copiedPaths(p), a.Ops))
+			wantNoted(t, p, a.Addr, false, noteElsewhere(copiedPaths(p), a.Addr, false))
+			wantApplied(t, p, a.Op, applyElsewhere(copiedPaths(p), a.Op))
+			wantApplied(t, p, opDel(a.Addr), applyElsewhere(copiedPaths(p), opDel(a.Addr)))
+			if one.same != (to == 5) || !equalPaths(whole, newPaths(1, 2, 3, 4, 5)) {
+				t.Errorf("from %d to %d: the same: %t, and the paths are now %+v", from, to, one.same, whole)
+			}
+			wantNoShare(t, a, one, two)
+		}
+	}
+}
+
+func TestPathsStayAsTheyWere(t *testing.T) {
+	// Paths are used after others were made of them.
+	for _, p := range []impl.Paths{validPaths(), newPaths(7, 8), downPaths(newPaths(200), 0)} {
+		before := copiedPaths(p)
+		last := p.List[len(p.List)-1].Addr
+		later := []impl.PathsResult{
+			impl.NotePath(p, last, false), impl.NotePath(p, p.First, true), impl.ApplyOp(p, opFirst(last)),
+			impl.FoldOps(p, nil), impl.FoldOps(p, []impl.AddrOp{opDel(7), opDel(8), opAdd(8), opFirst(last), opDel(p.First)}),
+		}
+		for _, o := range []impl.AddrOp{opAdd(99), opDel(8), opDel(255)} {
+			if after := impl.ApplyOp(p, o); after.Code == impl.OK {
+				later = append(later, after)
+			}
+		}
+		for _, got := range later {
+			if got.Code != impl.OK {
+				t.Errorf("the code is %d", got.Code)
+			}
+			clear(got.Paths.List[:cap(got.Paths.List)])
+			clear(got.Codes[:cap(got.Codes)])
+		}
+		addrs := impl.AddrsOf(p).List
+		clear(addrs[:cap(addrs)])
+		if !equalPaths(p, before) {
+			t.Errorf("the paths %+v are changed to %+v", before, p)
+		}
+	}
+	addrs := []int64{7, 8, 9}
+	p := impl.NewPaths(addrs).Paths
+	clear(addrs)
+	if !equalPaths(p, newPaths(7, 8, 9)) {
+		t.Errorf("the paths are changed to %+v with the addresses they were made of", p)
 	}
 }
